@@ -7,6 +7,7 @@ import (
 
 	"shunter/api"
 	"shunter/bits"
+	"shunter/ground"
 )
 
 // Promise 3.1.
@@ -146,16 +147,16 @@ func TestPutOfWrongRows(t *testing.T) {
 
 // What is handed in isn't changed, nor what lies behind it, and what is told shares nothing with it.
 func TestPutIsNewMemory(t *testing.T) {
-	b := roomy([]byte{1, 2, 3})
+	b := ground.Roomy([]byte{1, 2, 3})
 	array := slices.Clone(b[:cap(b)])
 	got, e := bits.Put(b, 4, api.Vec{W: 12, Lo: 0xabc})
 	isBytes(t, got, e, []byte{0x0a, 0xbc, 3}, "Put", b)
 	again, e := bits.Put(b, 4, api.Vec{W: 12, Lo: 0xabc})
 	isBytes(t, again, e, []byte{0x0a, 0xbc, 3}, "Put", b)
-	turn(got)
+	ground.Turn(got)
 	isBytes(t, b[:cap(b)], api.OK, array, "turned what was told:", b)
 	isBytes(t, again, api.OK, []byte{0x0a, 0xbc, 3}, "turned what was told:", again)
-	turn(b)
+	ground.Turn(b)
 	isBytes(t, again, api.OK, []byte{0x0a, 0xbc, 3}, "turned what was handed in:", again)
 }
 

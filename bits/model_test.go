@@ -5,11 +5,11 @@ import (
 	"fmt"
 	"math"
 	"math/big"
-	"slices"
 	"strings"
 	"testing"
 
 	"shunter/api"
+	"shunter/ground"
 	"shunter/vec"
 )
 
@@ -51,23 +51,11 @@ func row(s string) api.Vec {
 	return v
 }
 
-// bytesOf has the same n bytes in each run, of which none goes round soon.
-func bytesOf(n int) []byte {
-	b := make([]byte, n)
-	x := uint64(n)
-	for i := range b {
-		x += 0x9e3779b97f4a7c15
-		z := (x ^ x>>30) * 0xbf58476d1ce4e5b9
-		b[i] = byte(z >> 56)
-	}
-	return b
-}
-
 // grounds are bytes to read of and to write to: none, few, so many that a row of 128 bits may lie anywhere in them.
 func grounds() [][]byte {
 	l := [][]byte{nil, {}, {0}, {0xff}, {0x80}, {0x01}}
 	for _, n := range []int{1, 2, 3, 8, 9, 15, 16, 17, 18, 40} {
-		l = append(l, bytesOf(n), make([]byte, n), bytes.Repeat([]byte{0xff}, n))
+		l = append(l, ground.Bytes(n), make([]byte, n), bytes.Repeat([]byte{0xff}, n))
 	}
 	return l
 }
@@ -83,7 +71,7 @@ func wrongWidths() []int {
 // sample has rows of a width: the edges, a bit at each end, and one that is mixed.
 func sample(w int) []api.Vec {
 	noughts, ones := strings.Repeat("0", w), strings.Repeat("1", w)
-	l := []string{noughts, ones, "1" + noughts[1:], noughts[1:] + "1", "0" + ones[1:], ones[1:] + "0", spread(bytesOf(16))[:w]}
+	l := []string{noughts, ones, "1" + noughts[1:], noughts[1:] + "1", "0" + ones[1:], ones[1:] + "0", spread(ground.Bytes(16))[:w]}
 	var rows []api.Vec
 	for _, s := range l {
 		rows = append(rows, row(s))
@@ -133,17 +121,4 @@ func noBytes(t *testing.T, b []byte, e, want api.Errno, call string, args ...any
 	if len(b) != 0 || e != want {
 		t.Fatalf("%s%v = %x, %d; want none, %d", call, args, b, e, want)
 	}
-}
-
-// turn writes over bytes, and over all the room behind them.
-func turn(b []byte) {
-	b = b[:cap(b)]
-	for i := range b {
-		b[i] = ^b[i]
-	}
-}
-
-// roomy has the same bytes, with other ones behind them in one array.
-func roomy(b []byte) []byte {
-	return append(slices.Clone(b), 0xa5, 0x5a, 0xa5, 0x5a)[:len(b)]
 }

@@ -8,6 +8,7 @@ import (
 
 	"shunter/api"
 	"shunter/bits"
+	"shunter/ground"
 )
 
 const most = 73728
@@ -38,7 +39,7 @@ func holds(t *testing.T, r *bits.Row, s string) {
 // filled has so many bits, and the model of them.
 func filled(t *testing.T, n int) (*bits.Row, string) {
 	t.Helper()
-	r, b := &bits.Row{}, bytesOf(n/8)
+	r, b := &bits.Row{}, ground.Bytes(n/8)
 	addsBytes(t, r, b)
 	s := spread(b)
 	if n%8 != 0 {
@@ -213,7 +214,7 @@ func TestNilRow(t *testing.T) {
 // What is handed in isn't changed or kept, and what was told isn't changed by what is put behind, or the other way round.
 func TestRowIsNewMemory(t *testing.T) {
 	var r bits.Row
-	b := roomy([]byte{1, 2, 3})
+	b := ground.Roomy([]byte{1, 2, 3})
 	array := slices.Clone(b[:cap(b)])
 	addsBytes(t, &r, b)
 	first, same := r.All(), r.All()
@@ -225,15 +226,15 @@ func TestRowIsNewMemory(t *testing.T) {
 	isBytes(t, first, api.OK, []byte{1, 2, 3}, "what was told first:")
 	isBytes(t, second, api.OK, []byte{1, 2, 3, 0xf0}, "what was told then:")
 	want := spread([]byte{1, 2, 3, 0xfa, 7})
-	turn(b)
+	ground.Turn(b)
 	holds(t, &r, want)
-	turn(first)
-	turn(second)
+	ground.Turn(first)
+	ground.Turn(second)
 	isBytes(t, same, api.OK, []byte{1, 2, 3}, "what was told once more:")
 	holds(t, &r, want)
 	all := r.All()
 	addsBytes(t, &r, all)
 	isBytes(t, all, api.OK, packed(want), "what was told, and put behind:")
-	turn(all)
+	ground.Turn(all)
 	holds(t, &r, want+want)
 }

@@ -8,6 +8,7 @@ import (
 
 	"shunter/api"
 	"shunter/bits"
+	"shunter/ground"
 )
 
 // stands asks where a Taker is.
@@ -87,7 +88,7 @@ func TestTakerOfWrongWidths(t *testing.T) {
 }
 
 func TestTakerLook(t *testing.T) {
-	for _, b := range [][]byte{nil, {0xd2}, bytesOf(2), bytesOf(17), bytesOf(40)} {
+	for _, b := range [][]byte{nil, {0xd2}, ground.Bytes(2), ground.Bytes(17), ground.Bytes(40)} {
 		s := spread(b)
 		for n := range len(s) + 1 {
 			k := takerAt(t, b, n)
@@ -151,7 +152,7 @@ func TestTakerBytes(t *testing.T) {
 
 // Where the bits taken don't make whole bytes that is told first, of whatever number of bytes.
 func TestTakerOfBytesNotNow(t *testing.T) {
-	b := bytesOf(20)
+	b := ground.Bytes(20)
 	for n := range 8 * len(b) {
 		if n%8 == 0 {
 			continue
@@ -172,7 +173,7 @@ func TestTakerOfBytesNotNow(t *testing.T) {
 
 // A Taker isn't held to so many bytes as a packet may have.
 func TestTakerOfManyBytes(t *testing.T) {
-	b := bytesOf(100000)
+	b := ground.Bytes(100000)
 	k := bits.Take(b)
 	stands(t, k, 0, 800000)
 	got, e := k.Bytes(99990)
@@ -203,7 +204,7 @@ func TestNilTaker(t *testing.T) {
 
 // What is handed in isn't changed or kept, and what was told is no part of what is still to come.
 func TestTakerIsNewMemory(t *testing.T) {
-	b := roomy(bytesOf(12))
+	b := ground.Roomy(ground.Bytes(12))
 	want := slices.Clone(b)
 	array := slices.Clone(b[:cap(b)])
 	k, other := bits.Take(b), bits.Take(b)
@@ -212,17 +213,17 @@ func TestTakerIsNewMemory(t *testing.T) {
 	second, e := k.Bytes(3)
 	isBytes(t, second, e, want[3:6], "Bytes", 3)
 	isBytes(t, b[:cap(b)], api.OK, array, "what was handed in:")
-	turn(b)
-	turn(first)
+	ground.Turn(b)
+	ground.Turn(first)
 	none, e := k.Bytes(0)
 	isBytes(t, none, e, nil, "Bytes", 0)
-	turn(none)
+	ground.Turn(none)
 	isBytes(t, second, api.OK, want[3:6], "what was told then:")
 	v, e := k.Look(0, 48)
 	isRow(t, v, e, spread(want[6:]), "Look", 0, 48)
 	rest, e := k.Bytes(6)
 	isBytes(t, rest, e, want[6:], "Bytes", 6)
-	turn(rest)
+	ground.Turn(rest)
 	isBytes(t, second, api.OK, want[3:6], "what was told then:")
 	all, e := other.Bytes(12)
 	isBytes(t, all, e, want, "Bytes", 12)
@@ -233,13 +234,13 @@ func TestWhatARowWasMadeOfIsTakenAgain(t *testing.T) {
 	for seed := range 40 {
 		var r bits.Row
 		rows, pieces := []api.Vec{}, [][]byte{}
-		for i, x := range bytesOf(60 + seed) {
+		for i, x := range ground.Bytes(60 + seed) {
 			w := widths()[int(x)%len(widths())]
 			rows = append(rows, sample(w)[i%7])
 			adds(t, &r, rows[i])
 			pieces = append(pieces, nil)
 			if r.Len()%8 == 0 {
-				pieces[i] = bytesOf(int(x) % 20)
+				pieces[i] = ground.Bytes(int(x) % 20)
 				addsBytes(t, &r, pieces[i])
 			}
 		}

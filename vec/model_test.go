@@ -6,6 +6,7 @@ import (
 	"testing"
 
 	"shunter/api"
+	"shunter/ground"
 	"shunter/vec"
 	"shunter/word"
 )
@@ -61,18 +62,11 @@ func sample(w int) []api.Vec {
 	}
 	x := uint64(w)
 	for range 12 {
-		hi := mixed(&x)
-		lo := mixed(&x)
+		hi := ground.Number(&x)
+		lo := ground.Number(&x)
 		l = append(l, row(w, number(api.Vec{Hi: hi, Lo: lo})))
 	}
 	return l
-}
-
-func mixed(x *uint64) uint64 {
-	*x += 0x9e3779b97f4a7c15
-	z := (*x ^ *x>>30) * 0xbf58476d1ce4e5b9
-	z = (z ^ z>>27) * 0x94d049bb133111eb
-	return z ^ z>>31
 }
 
 // each calls f with all samples of all widths.

@@ -5,6 +5,7 @@ import (
 	"math/big"
 	"testing"
 
+	"shunter/ground"
 	"shunter/word"
 )
 
@@ -42,18 +43,11 @@ func sample() []word.Word {
 	}
 	x := uint64(1)
 	for range 40 {
-		hi := mixed(&x)
-		lo := mixed(&x)
+		hi := ground.Number(&x)
+		lo := ground.Number(&x)
 		l = append(l, word.Word{Hi: hi, Lo: lo}, word.Word{Lo: hi >> (lo % 64)}, word.Word{Hi: lo >> (hi % 64), Lo: hi})
 	}
 	return l
-}
-
-func mixed(x *uint64) uint64 {
-	*x += 0x9e3779b97f4a7c15
-	z := (*x ^ *x>>30) * 0xbf58476d1ce4e5b9
-	z = (z ^ z>>27) * 0x94d049bb133111eb
-	return z ^ z>>31
 }
 
 // moves has all that are near to an edge, and those that no int of the other sign goes with.
