@@ -1,4 +1,4 @@
-// Package ground has what the tests of several layers stand on: numbers and bytes that are mixed, but the same in each run.
+// Package ground has what the tests of several layers stand on: numbers and bytes that are mixed, but the same in each run, and images.
 package ground
 
 import "slices"
