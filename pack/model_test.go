@@ -1,15 +1,11 @@
 package pack_test
 
 import (
-	"bytes"
 	"math/big"
 	"slices"
-	"strconv"
-	"testing"
 
 	"shunter/api"
 	"shunter/code"
-	"shunter/ground"
 	"shunter/image"
 )
 
@@ -195,88 +191,4 @@ func imageOf(b []byte) (m api.Image, ok bool) {
 	return m, image.Check(m) == nil
 }
 
-// Images without a flaw.
-
 func rowOf(w int, lo uint64) api.Vec { return api.Vec{W: w, Lo: lo} }
-
-func changed(in func(m *api.Image)) api.Image {
-	m := ground.Image()
-	in(&m)
-	return m
-}
-
-// several are n things with names of their own.
-func several[T any](x T, n int, put func(x *T, s string)) []T {
-	l := make([]T, n)
-	for i := range l {
-		l[i] = x
-		put(&l[i], "name-"+strconv.Itoa(i))
-	}
-	return l
-}
-
-// edges have the greatest numbers, the longest names and the most things that there may be.
-func edges() []api.Image {
-	long := string(bytes.Repeat([]byte("ӿ"), 24))
-	return []api.Image{
-		ground.LeastImage(),
-		ground.Image(),
-		changed(func(m *api.Image) { m.Name = long }),
-		changed(func(m *api.Image) { m.Headers[3].Fields[0].Name, m.Insts[4].Name, m.Metas[2].Name = long, long, long }),
-		changed(func(m *api.Image) { m.States[3].Name, m.Actions[8].Name, m.Tables[3].Name = long, long, long }),
-		changed(func(m *api.Image) { m.Regs[1].Name, m.Counters[2].Name, m.Meters[1].Name = long, long, long }),
-		changed(func(m *api.Image) {
-			h := &m.Headers[2]
-			h.Var, h.By, h.Mul, h.Sub = 64, 3, 64, 4096
-		}),
-		changed(func(m *api.Image) {
-			fields := several(api.Field{W: 8}, 16, func(x *api.Field, s string) { x.Name = s })
-			fields[15].W = 128
-			m.Headers = append(m.Headers, several(api.Header{Fields: fields, Var: 1, By: 14, Mul: 1}, 12, func(x *api.Header, s string) { x.Name = s })...)
-			m.Insts = append(m.Insts, several(api.Inst{Header: 15, Depth: 4}, 6, func(x *api.Inst, s string) { x.Name = s })...)
-			m.Insts = append(m.Insts, api.Inst{Name: "last", Header: 14})
-			m.Deparse = nil
-			for i := range 32 {
-				m.Deparse = append(m.Deparse, 31-i)
-			}
-			m.Tables[0].Keys = []api.Key{{Kind: api.KeyField, A: 30, B: 15}}
-			m.States[0].Exts = []api.Ext{{Kind: api.ExtOne, N: 31}, {Kind: api.ExtNext, N: 10}, {Kind: api.ExtSkip, N: 64}, {Kind: api.ExtSkip, N: 1}}
-			m.Egress[0].A = 31
-		}),
-		changed(func(m *api.Image) {
-			m.States = append(m.States, several(api.State{Next: api.Reject}, 12, func(x *api.State, s string) { x.Name = s })...)
-			m.States[0].Cases[0].Next, m.States[1].Cases[7].Next, m.States[1].Next = 15, 14, 15
-		}),
-		changed(func(m *api.Image) {
-			m.Metas = several(api.Field{W: 128}, 16, func(x *api.Field, s string) { x.Name = s })
-			m.States = ground.LeastImage().States
-			m.Tables[2].Keys = []api.Key{{Kind: api.KeyMeta, A: 23}}
-			m.Tables[3].Size = 256
-		}),
-		changed(func(m *api.Image) {
-			m.Actions = append(m.Actions, several(api.Action{Params: []int{128, 1}}, 23, func(x *api.Action, s string) { x.Name = s })...)
-			m.Tables[3].Actions = []int{31, 0}
-			m.Tables[3].Default = api.Call{Action: 31, Args: []api.Vec{{W: 128, Hi: 1 << 63}, {W: 1, Lo: 1}}}
-			m.Tables = append(m.Tables, several(m.Tables[1], 4, func(x *api.Table, s string) { x.Name = s })...)
-		}),
-		changed(func(m *api.Image) {
-			m.Ingress = slices.Repeat([]api.Node{{Kind: api.NodeValid, Yes: 32, No: 32}}, 32)
-			m.Egress = slices.Repeat([]api.Node{{Kind: api.NodeDo, A: 4, Yes: 32}}, 32)
-		}),
-		changed(func(m *api.Image) {
-			m.Checks, m.Updates = slices.Repeat(m.Checks, 2), slices.Repeat(m.Updates[3:], 4)
-			m.Regs = several(m.Regs[1], 8, func(x *api.Reg, s string) { x.Name = s })
-			m.Counters = several(m.Counters[1], 8, func(x *api.Counter, s string) { x.Name = s })
-			m.Meters = several(m.Meters[1], 8, func(x *api.Meter, s string) { x.Name = s })
-		}),
-		changed(func(m *api.Image) { m.Ingress, m.Egress, m.Deparse = []api.Node{}, nil, []int{} }),
-	}
-}
-
-func TestEdgesHaveNoFlaw(t *testing.T) {
-	for i, m := range edges() {
-		if err := image.Check(m); err != nil {
-			t.Errorf("the image %d: %v", i, err)
-		}
-	}
-}

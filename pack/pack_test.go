@@ -57,7 +57,7 @@ func TestPackOfTheLeastImage(t *testing.T) {
 // Promises 11.1 and 11.3: what was packed is read again as the image; so images that differ have bytes that differ.
 func TestPackIsReadAgain(t *testing.T) {
 	var all [][]byte
-	for i, m := range edges() {
+	for i, m := range ground.Images() {
 		b := packed(t, m)
 		back, ok := imageOf(b)
 		if !ok || !image.Same(back, m) {
@@ -122,7 +122,7 @@ func TestPackOfWhatIsAlike(t *testing.T) {
 		func(m *api.Image) { m.States[3].Next = api.Accept },
 		func(m *api.Image) { m.Deparse[0], m.Deparse[1] = m.Deparse[1], m.Deparse[0] },
 	} {
-		l = append(l, changed(in))
+		l = append(l, ground.Changed(in))
 	}
 	for i, a := range l {
 		for _, b := range l[:i] {
@@ -173,9 +173,9 @@ func flawed() []api.Image {
 		func(m *api.Image) { m.Counters[0].Log = 0 },
 		func(m *api.Image) { m.Meters[0].Burst = 1<<20 + 1 },
 		func(m *api.Image) { m.Meters[0].Rate = 1 << 16 },
-		func(m *api.Image) { *m = sized(1 << 16); m.Meters = []api.Meter{{}} }, // too long, too
+		func(m *api.Image) { *m = ground.Sized(1 << 16); m.Meters = []api.Meter{{}} }, // too long, too
 	} {
-		l = append(l, changed(in))
+		l = append(l, ground.Changed(in))
 	}
 	return l
 }
@@ -203,36 +203,10 @@ func TestFlawed(t *testing.T) {
 	}
 }
 
-// ifs are 32 nodes of If, each with this code.
-func ifs(l []api.Ins) []api.Node {
-	var nodes []api.Node
-	for range 32 {
-		nodes = append(nodes, api.Node{Kind: api.NodeIf, Code: slices.Clone(l), Yes: 32, No: 32})
-	}
-	return nodes
-}
-
-// sized is an image of n bytes, from some 40,000 to some 70,000.
-func sized(n int) api.Image {
-	m := ground.LeastImage()
-	m.Ingress, m.Egress = ifs(slices.Repeat([]api.Ins{{V: rowOf(128, 5)}}, 64)), ifs(stops(64))
-	more := n - (5 + 15*5 + 5 + 7 + 11 + 32*(64*18+4) + 1 + 32*(64+4) + 1)
-	for i := 0; more > 0; i++ {
-		// A push of a row is longer than a stop by from 2 to 17 bytes, a shift by one.
-		x := api.Ins{V: rowOf(8*min(more-1, 16), 1)}
-		if more == 1 {
-			x = api.Ins{Op: api.OpShl}
-		}
-		more -= len(pack.Code(nil, []api.Ins{x})) - 2
-		m.Egress[i%32].Code[i/32] = x
-	}
-	return m
-}
-
 // Promise 11.1: as many bytes as there may be, and more.
 func TestPackOfMuch(t *testing.T) {
 	for _, n := range []int{50000, 65500, 65533, 65534, 65535} {
-		m := sized(n)
+		m := ground.Sized(n)
 		b := packed(t, m)
 		back, ok := imageOf(b)
 		if len(b) != n || !ok || !image.Same(back, m) {
@@ -240,10 +214,10 @@ func TestPackOfMuch(t *testing.T) {
 		}
 	}
 	most := ground.LeastImage()
-	wide := slices.Repeat([]api.Ins{{V: rowOf(128, 5)}}, 64)
-	most.Actions = several(api.Action{Params: []int{1, 2, 3, 4, 5, 6, 7, 8}, Code: wide}, 32, func(x *api.Action, s string) { x.Name = s })
-	most.Ingress, most.Egress = ifs(wide), ifs(wide)
-	for _, m := range []api.Image{sized(65536), sized(65537), sized(65600), sized(70000), most} {
+	wide := ground.Sized(1 << 16).Ingress
+	most.Actions = ground.Several(api.Action{Params: []int{1, 2, 3, 4, 5, 6, 7, 8}, Code: wide[0].Code}, 32, func(x *api.Action, s string) { x.Name = s })
+	most.Ingress, most.Egress = wide, wide
+	for _, m := range []api.Image{ground.Sized(65536), ground.Sized(65537), ground.Sized(65600), ground.Sized(70000), most} {
 		want := len(sectionsOf(t, m)) // its sections are told yet
 		if n := pack.Size(m); n != want || n <= 65535 {
 			t.Errorf("Size of an image of %d bytes = %d", want, n)
@@ -252,14 +226,14 @@ func TestPackOfMuch(t *testing.T) {
 			t.Errorf("Pack of an image of %d bytes = %d bytes, %d", want, len(b), e)
 		}
 	}
-	if n := pack.Size(sized(65536)); n != 65536 {
+	if n := pack.Size(ground.Sized(65536)); n != 65536 {
 		t.Errorf("Size = %d; want 65536", n)
 	}
 }
 
 // What is told is new memory, and what is handed in stays.
 func TestPackIsNewMemory(t *testing.T) {
-	for i, m := range edges() {
+	for i, m := range ground.Images() {
 		kept := image.Copy(m)
 		want := packed(t, m)
 		first, second := packed(t, m), packed(t, m)
@@ -273,7 +247,7 @@ func TestPackIsNewMemory(t *testing.T) {
 			is(t, second, again, "turned a section of the image", i, part)
 		}
 		is(t, packed(t, m), want, "Pack behind what was turned", i)
-		if !image.Same(m, kept) || !reflect.DeepEqual(m, edges()[i]) {
+		if !image.Same(m, kept) || !reflect.DeepEqual(m, ground.Images()[i]) {
 			t.Errorf("the image %d is changed", i)
 		}
 	}

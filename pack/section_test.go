@@ -99,7 +99,7 @@ func noParts() []int {
 
 // Promise 11.2: what there is no section of.
 func TestSectionNone(t *testing.T) {
-	for _, m := range edges() {
+	for _, m := range ground.Images() {
 		for _, part := range noParts() {
 			if b, e := pack.Section(m, part); len(b) > 0 || e != api.ErrNone {
 				t.Errorf("Section %d = % x, %d", part, b, e)
