@@ -40,7 +40,7 @@ func TestFittingHasEachOperation(t *testing.T) {
 }
 
 func TestCheckOfFlaws(t *testing.T) {
-	for i, in := range flaws() {
+	for i, in := range ground.Flaws() {
 		for _, m := range []api.Image{ground.Changed(in), fittingWith(in)} {
 			if image.Check(m) == nil {
 				t.Fatal("no flaw:", i)

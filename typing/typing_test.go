@@ -238,7 +238,7 @@ func TestLongCode(t *testing.T) {
 // Promise 14.1: what is refused as a whole, ahead of all that is wrong in it.
 
 func TestCodeOfNoRightImage(t *testing.T) {
-	for i, in := range flaws() {
+	for i, in := range ground.Flaws() {
 		m := ground.Changed(in)
 		if image.Check(m) == nil {
 			t.Fatal("no flaw:", i)
@@ -248,31 +248,6 @@ func TestCodeOfNoRightImage(t *testing.T) {
 		}
 	}
 	is(t, tell(typing.Code(api.Image{}, nil, nil, nil)), told{e: api.ErrArg}, "a zero image")
-}
-
-// flaws break an image in each of its parts.
-func flaws() []func(m *api.Image) {
-	return []func(m *api.Image){
-		func(m *api.Image) { m.Name = "" },
-		func(m *api.Image) { m.Ports = 65 },
-		func(m *api.Image) { m.Headers[0].Fields[0].W = 49 },
-		func(m *api.Image) { m.Insts[1].Depth = 5 },
-		func(m *api.Image) { m.Metas[0].W = 129 },
-		func(m *api.Image) { m.States = nil },
-		func(m *api.Image) { m.Actions[1].Code[0].A = 2 },
-		func(m *api.Image) { m.Actions[1].Params[0] = 0 },
-		func(m *api.Image) { m.Actions[0].Code = stops(65) },
-		func(m *api.Image) { m.Tables[0].Size = 0 },
-		func(m *api.Image) { m.Ingress[0].Yes = 0 },
-		func(m *api.Image) { m.Ingress[1].Code[0].A = 7 },
-		func(m *api.Image) { m.Egress[0].A = 7 },
-		func(m *api.Image) { m.Deparse[0] = 0 },
-		func(m *api.Image) { m.Checks[0].Field = 4 },
-		func(m *api.Image) { m.Updates[0].Slot = 7 },
-		func(m *api.Image) { m.Regs[0].Log = 9 },
-		func(m *api.Image) { m.Counters[0].Log = 0 },
-		func(m *api.Image) { m.Meters[0].Burst = 0 },
-	}
 }
 
 func TestParameters(t *testing.T) {
